@@ -1,0 +1,1 @@
+"""Axisbook: programs of equations over arrays of whole numbers."""
