@@ -58,14 +58,22 @@ def read_lines(tokens, length):
     """The fault's place, or None, and the lines of a text of that length."""
     reader = Reader()
     for token in tokens:
-        step = STEPS[reader.state]
-        state = step(reader, token)
-        if state is None:
+        if not stands(reader, token):
             return (token.place, [])
-        reader.state = state
     if reader.state != "line":
         return (length, [])
     return (None, reader.done)
+
+
+def stands(reader, token):
+    """Whether the token can stand; if so the reader is behind it now."""
+    step = STEPS[reader.state]
+    state = step(reader, token)
+    if state is None:
+        return False
+    reader.state = state
+    reader.current.tokens.append(token)
+    return True
 
 
 def at_line(reader, token):

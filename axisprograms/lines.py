@@ -14,7 +14,7 @@ END = "end"
 
 
 class Line:
-    """The mentions stand in the order of their places."""
+    """The tokens are all of the line's; the mentions stand in the order of their places."""
 
     def __init__(self, role):
         self.role = role
@@ -22,6 +22,7 @@ class Line:
         self.place = 0
         self.kind = 0
         self.rank = 0
+        self.tokens = []
         self.mentions = []
 
 

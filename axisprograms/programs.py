@@ -1,15 +1,22 @@
 """The calls on one object that holds a program, told and answered as lists of whole numbers."""
 
 from axisprograms.grammar import read_lines
+from axisprograms.lines import SIZE
 from axisprograms.names import wrong_name
+from axisprograms.needs import reaches
+from axisprograms.printing import printed_line
 from axisprograms.tokens import tokens_of
 
 READ = 0
 LINES = 1
 LINE = 2
 FIND = 3
+TEXT = 4
+PRINT = 5
+NEEDS = 6
 
 LONGEST_TEXT = 1024
+LINE_FEED = 10
 
 TOO_LONG = -6
 NO_PROGRAM = -1
@@ -21,10 +28,11 @@ class UnknownCall(ValueError):
 
 
 class Book:
-    """The object that the calls are on."""
+    """The object that the calls are on: its program's lines, and the printed form of each."""
 
     def __init__(self):
         self.program = []
+        self.printed = []
 
 
 class Row:
@@ -56,6 +64,13 @@ def answer_to_next(book, row):
         return line_answer(book, next_number(row))
     if call == FIND:
         return find_answer(book, next_list(row))
+    if call == TEXT:
+        return text_answer(book, next_number(row))
+    if call == PRINT:
+        return print_answer(book)
+    if call == NEEDS:
+        needing = next_number(row)
+        return needs_answer(book, needing, next_number(row))
     raise UnknownCall(call)
 
 
@@ -84,6 +99,7 @@ def read_answer(book, text):
     if wrong is not None:
         return [-wrong[0], wrong[1]]
     book.program = lines
+    book.printed = [printed_line(line.tokens) for line in lines]
     return [0]
 
 
@@ -100,6 +116,37 @@ def find_answer(book, name):
         if name_bytes(line) == name:
             return [number]
     return [NO_LINE]
+
+
+def text_answer(book, number):
+    if number >= len(book.printed):
+        return [NO_LINE]
+    return told_text(book.printed[number])
+
+
+def print_answer(book):
+    whole = []
+    for printed in book.printed:
+        whole.extend(printed)
+        whole.append(LINE_FEED)
+    return told_text(whole)
+
+
+def told_text(text):
+    return [0, len(text)] + text
+
+
+def needs_answer(book, needing, needed):
+    if not is_array(book, needing) or not is_array(book, needed):
+        return [NO_LINE]
+    return [1 if reaches(book.program, needing, needed) else 0]
+
+
+def is_array(book, number):
+    if number >= len(book.program):
+        return False
+    line = book.program[number]
+    return line.role != SIZE
 
 
 def name_bytes(line):

@@ -25,11 +25,15 @@ BYTE_OF_ZERO = 48
 
 
 class Token:
-    """The form is NUMBER, NAME, KIND or BAD, else the fixed word or the sign itself; names and kinds have a word."""
+    """The form is NUMBER, NAME, KIND or BAD, else the fixed word or the sign itself; names and kinds have a word.
 
-    def __init__(self, form, place, word=""):
+    What is printed for it are its own bytes, but of a number not the zeros before it.
+    """
+
+    def __init__(self, form, place, printed, word=""):
         self.form = form
         self.place = place
+        self.printed = printed
         self.word = word
 
 
@@ -80,12 +84,12 @@ def is_word_byte(byte):
 
 def token_of(piece, place):
     if is_digit(piece[0]):
-        return Token(number_form(piece), place)
+        return Token(number_form(piece), place, without_zeros(piece))
     if is_word_byte(piece[0]):
-        return word_token(spelled(piece), place)
+        return word_token(piece, place)
     if len(piece) == 2:
-        return Token(PAIRS[tuple(piece)], place)
-    return Token(SINGLES.get(piece[0], BAD), place)
+        return Token(PAIRS[tuple(piece)], place, piece)
+    return Token(SINGLES.get(piece[0], BAD), place, piece)
 
 
 def number_form(digits):
@@ -96,12 +100,20 @@ def number_form(digits):
     return NUMBER if value < NUMBER_LIMIT else BAD
 
 
-def word_token(word, place):
+def without_zeros(digits):
+    begin = 0
+    while begin < len(digits) - 1 and digits[begin] == BYTE_OF_ZERO:
+        begin += 1
+    return digits[begin:]
+
+
+def word_token(piece, place):
+    word = spelled(piece)
     if word in KINDS:
-        return Token(KIND, place, word)
+        return Token(KIND, place, piece, word)
     if word in FIXED_WORDS:
-        return Token(word, place)
-    return Token(NAME if len(word) <= LONGEST_NAME else BAD, place, word)
+        return Token(word, place, piece)
+    return Token(NAME if len(word) <= LONGEST_NAME else BAD, place, piece, word)
 
 
 def spelled(word_bytes):

@@ -1,9 +1,9 @@
-"""The calls read, lines, line and find, and how they are told and answered."""
+"""The calls read, lines, line and find, and how all calls are told and answered."""
 
 import unittest
 
 from axisprograms.programs import UnknownCall, answers
-from tests.helper import FIXED_WORDS, KINDS, ask, bytes_of, find, line, lines, read
+from tests.helper import FIXED_WORDS, KINDS, ask, bytes_of, find, line, line_text, lines, needs, print_all, read
 
 GREATEST = 9223372036854775807
 PROGRAM = "size n;in first[n,3]:i16;let b_2[i<n]:u64=first[i,0];out C[]:i128=sum(i<n:b_2[i]);size m;"
@@ -18,6 +18,8 @@ class BeforeAnyRead(unittest.TestCase):
     def test_the_program_of_no_lines(self):
         told = ask(lines(), line(0), line(1), line(GREATEST), find(""), find("n"), find("size"))
         self.assertEqual(told, [[0], [-1], [-1], [-1], [-1], [-1], [-1]])
+        told = ask(line_text(0), line_text(GREATEST), print_all(), needs(0, 0), needs(0, GREATEST), lines())
+        self.assertEqual(told, [[-1], [-1], [0, 0], [-1], [-1], [0]])
 
 
 class LinesCall(unittest.TestCase):
@@ -140,6 +142,19 @@ class TheInterface(unittest.TestCase):
         calls = read("size ab;") + lines() + line(0) + line(1) + find("ab") + find("b") + read("size") + read(" " * 1025)
         self.assertEqual(answers(calls), [1, 0, 1, 1, 7, 0, 2, 97, 98, 0, 0, 0, 1, -1, 1, 0, 1, -1, 2, -1, 4, 1, -6])
 
+    def test_how_texts_are_told(self):
+        calls = read("size ab;in c[]:u8;") + line_text(0) + line_text(2) + print_all() + needs(1, 1) + needs(0, 1)
+        size = [115, 105, 122, 101, 32, 97, 98, 59]
+        array = [105, 110, 32, 99, 91, 93, 58, 117, 56, 59]
+        self.assertEqual(answers(calls), [1, 0, 10, 0, 8] + size + [1, -1, 22, 0, 20] + size + [10] + array + [10]
+                         + [1, 0, 1, -1])
+        self.assertEqual(answers(print_all()), [2, 0, 0])
+
+    def test_numbers_of_a_call_are_no_calls(self):
+        self.assertEqual(answers([4, 5, 5]), [1, -1, 2, 0, 0])
+        self.assertEqual(answers([6, 5, 5, 5]), [1, -1, 2, 0, 0])
+        self.assertEqual(answers([5, 6, 1, 1, 1]), [2, 0, 0, 1, -1, 1, 0])
+
     def test_each_refusal_of_read(self):
         for text, told in TheProgramStays.REFUSED:
             self.assertEqual(answers(read(text)), [len(told)] + told)
@@ -154,19 +169,22 @@ class TheInterface(unittest.TestCase):
 
     def test_what_is_answered_is_a_list_of_whole_numbers(self):
         calls = read(PROGRAM) + lines() + line(1) + find("C") + read("size") + line(9) + read("size n;size n;")
+        calls += line_text(2) + print_all() + needs(3, 1) + needs(1, 3) + needs(0, 0) + line_text(9)
         told = answers(calls)
         self.assertIs(type(told), list)
         self.assertEqual({type(number) for number in told}, {int})
 
     def test_what_is_handed_in_stays_as_it_was(self):
         calls = read(PROGRAM) + lines() + line(1) + find("C") + read("size") + read(" " * 1025) + line(GREATEST)
+        calls += line_text(3) + print_all() + needs(3, 1) + line_text(GREATEST) + needs(GREATEST, GREATEST)
         kept = list(calls)
         answers(calls)
         self.assertEqual(calls, kept)
 
     def test_what_is_handed_in_is_not_changed_for_a_while_either(self):
-        calls = OnlyRead(read(PROGRAM) + lines() + line(1) + find("C") + read("size") + find("") + read(""))
-        self.assertEqual(len(answers(calls)), len(answers(list(calls))))
+        calls = read(PROGRAM) + lines() + line(1) + find("C") + read("size") + find("") + line_text(2) + print_all()
+        calls = OnlyRead(calls + needs(3, 1) + line_text(9) + needs(0, 0) + read("") + print_all())
+        self.assertEqual(answers(calls), answers(list(calls)))
 
     def test_nothing_is_kept_from_one_time_to_the_next(self):
         first = answers(read(PROGRAM) + lines())

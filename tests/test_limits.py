@@ -1,15 +1,11 @@
 """Each limit at its last allowed place and one beyond."""
 
-import inspect
 import itertools
-import sys
 import unittest
 
 from axisprograms.programs import answers
-from tests.helper import BEFORE_VALUE, ReadCase, ask, lines, read
-
-# The operators of each level, the loosest first.
-ROWS = (("|",), ("^",), ("&",), ("<<", ">>"), ("+", "-"), ("*", "/", "%"))
+from tests.helper import (BEFORE_VALUE, ROWS, ReadCase, answers_with_few_calls_within_one_another, ask, lines, read,
+                          row)
 
 # What opens something within a value, with what closes it behind a number; words open with their parenthesis.
 OPENERS = {
@@ -63,14 +59,6 @@ class AxisCounts(ReadCase):
         self.taken("in a[1,2,3,4]:u8;let b[]:u8=a[1,2,3,4];", 2)
         self.refused(-1, "in a[1,2,3,4]:u8;let b[]:u8=a[1,2,3,4¤,5];")
         self.refused(-1, "let b[]:u8=a[b[1,2,3,4],2,min(3,3),4¤,5];")
-
-
-def row(operators, operands, first="1"):
-    """A row of so many operands, the first of them as it's told, with the operators by turns."""
-    text = first
-    for number in range(operands - 1):
-        text += operators[number % len(operators)] + "2"
-    return text
 
 
 class RowLengths(ReadCase):
@@ -316,15 +304,8 @@ class NearTheLongestText(ReadCase):
     def test_what_is_nested_is_gone_through_by_loops(self):
         texts = [BEFORE_VALUE + opened([opener] * 20) + ";" for opener in OPENERS]
         calls = [number for text in texts for number in read(text)]
-        allowed = sys.getrecursionlimit()
-        wanted = answers(calls)
         # A value of 20 within one another needs no more calls within one another than a flat one.
-        sys.setrecursionlimit(len(inspect.stack()) + 30)
-        try:
-            told = answers(calls)
-        finally:
-            sys.setrecursionlimit(allowed)
-        self.assertEqual(told, wanted)
+        self.assertEqual(answers_with_few_calls_within_one_another(calls), answers(calls))
 
     def test_many_lines(self):
         text = "".join(["size n" + str(number) + ";" for number in range(120)])[:1024]
